@@ -1,0 +1,1 @@
+"""Pagepart: pages parted into boxes with texts in them."""
