@@ -205,3 +205,29 @@ def grown(kind, numbers, chance):
     other = "-" if kind == "|" else "|"
     edges = [0] + places + [len(numbers)]
     return (kind, tuple(grown(other, numbers[first:last], chance) for first, last in zip(edges, edges[1:])))
+
+
+# All signs that a word may have: those from behind the blank to the tilde but one.
+WORD_SIGNS = "".join(chr(number) for number in range(33, 127) if number != 37)
+
+
+def words_by_chance(seed, many, least=1, most=12):
+    chance = random.Random(seed)
+    return ["".join(chance.choices(WORD_SIGNS, k=chance.randint(least, most))) for word in range(many)]
+
+
+def no_words():
+    """Things of which each is no word."""
+    return [
+        "", " ", "a b", " ab", "ab ", "%", "a%b", "12345%789012", "a" * 13, "a" * 4000, "a\tb", "\t", "a\n", "\n", "\x00",
+        "\x1f", "\x7f", "\x80", "\xa0", "\u00e9", "\u20ac", "ab\U0001f600", "\ud800", "a\u0301",
+        b"ab", 7, 0, True, None, 1.5, ["ab"], ("ab",), {"ab": 1}, {"ab"}, [], (), OwnThing(), OwnThing, str, is_nothing,
+    ]
+
+
+def no_lists():
+    """Things that are no list, some of which hold words."""
+    return [
+        None, True, False, 0, 1, 7, 1.5, "", "ab", "ab cd", b"ab", (), ("ab",), ("ab", "cd"), {}, {"ab": 1}, {0: "ab"},
+        {"ab"}, frozenset(["ab"]), range(0), range(2), iter(["ab"]), OwnThing(), OwnThing, list, is_nothing,
+    ]
