@@ -51,24 +51,36 @@ def exchanged(stairs):
     return [(high, wide) for wide, high in reversed(stairs)]
 
 
-def stairs_of(tree, texts):
-    """The stairs of a tree, or of a part of one, with the texts for the whole tree."""
+def box_stairs(texts):
+    return [text_stairs(words) for words in texts]
+
+
+def stairs_of(tree, boxes):
+    """The stairs of a tree, or of a part of one, with those of the boxes by number."""
     if is_whole(tree):
-        return text_stairs(texts[tree])
-    parts = [stairs_of(part, texts) for part in tree[PARTS]]
+        return boxes[tree]
+    parts = [stairs_of(part, boxes) for part in tree[PARTS]]
     if tree[KIND] == ACROSS:
         return all_side_by_side(parts)
     return exchanged(all_side_by_side([exchanged(part) for part in parts]))
 
 
+def lowest(stairs, wide):
+    return min([stair[HIGH] for stair in stairs if stair[WIDE] <= wide], default=None)
+
+
+def narrowest(stairs, high):
+    return min([stair[WIDE] for stair in stairs if stair[HIGH] <= high], default=None)
+
+
 def tree_stairs(tree, texts):
     refuse_no_texts(tree, texts)
-    return stairs_of(tree, texts)
+    return stairs_of(tree, box_stairs(texts))
 
 
 def least_high(tree, texts, wide):
-    return min([stair[HIGH] for stair in tree_stairs(tree, texts) if stair[WIDE] <= wide], default=None)
+    return lowest(tree_stairs(tree, texts), wide)
 
 
 def least_wide(tree, texts, high):
-    return min([stair[WIDE] for stair in tree_stairs(tree, texts) if stair[HIGH] <= high], default=None)
+    return narrowest(tree_stairs(tree, texts), high)

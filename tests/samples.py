@@ -231,3 +231,47 @@ def no_lists():
         None, True, False, 0, 1, 7, 1.5, "", "ab", "ab cd", b"ab", (), ("ab",), ("ab", "cd"), {}, {"ab": 1}, {0: "ab"},
         {"ab"}, frozenset(["ab"]), range(0), range(2), iter(["ab"]), OwnThing(), OwnThing, list, is_nothing,
     ]
+
+
+def full_texts(seed, many=24):
+    return [words_by_chance(seed * 100 + number, 40) for number in range(many)]
+
+
+def short_texts(seed, many):
+    """Few and short words for each box, for some none."""
+    chance = random.Random(seed)
+    return [words_by_chance(seed * 100 + number, chance.randint(0, 3), 1, 3) for number in range(many)]
+
+
+def no_trees():
+    """Things that are no tree, each in its own way."""
+    within = []
+    within.append(within)
+    return [
+        None, True, False, -1, 1, 7, 1.0, "", "0", "(|0 1)", [], [0], (), (0,), {}, OwnThing(), OwnThing, within,
+        ("|", (0,)), ("|", ()), ("|", 0), ("|", [0, 1]), ["|", (0, 1)], ("/", (0, 1)), (("|",), (0, 1)), (0, (0, 1)),
+        ("|", (0, 1), 2), ("|",), ("|", (0, 2)), ("|", (1, 2)), ("|", (0, 0)), ("|", (False, True)), ("|", ("0", "1")),
+        ("|", (0, ("|", (1, 2)))), ("-", (("-", (0, 1)), 2)), ("-", (0, ("|", (1,)))), broad_tree("|", 25), deep_tree(25),
+    ]
+
+
+def back_deep_tree(many):
+    """As deep as can be, too, but each deeper part stands first."""
+    tree = 0
+    for number in range(1, many):
+        tree = ("|" if number % 2 else "-", (tree, number))
+    return tree
+
+
+def full_trees():
+    return [
+        broad_tree("|", 24), broad_tree("-", 24), deep_tree(24), back_deep_tree(24),
+        ("-", tuple(("|", tuple(range(k, k + 6))) for k in range(0, 24, 6))),
+        ("|", tuple(("-", tuple(range(k, k + 6))) for k in range(0, 24, 6))),
+    ] + [tree_by_chance(seed, 24) for seed in range(10)]
+
+
+def parts_in(tree):
+    if not isinstance(tree, tuple):
+        return [tree]
+    return [tree] + [within for part in tree[1] for within in parts_in(part)]

@@ -1,7 +1,5 @@
 import copy
-import functools
 import itertools
-import random
 import unittest
 
 from pagepart.errors import NoTexts, NoTree
@@ -10,8 +8,10 @@ from pagepart.stairs import least_high, least_wide, tree_stairs
 from pagepart.trees import boxes_of, read_tree
 
 from samples import (
-    OwnThing, all_trees, broad_tree, deep_tree, no_lists, no_words, tree_by_chance, words_by_chance,
+    OwnThing, all_trees, broad_tree, deep_tree, full_texts, full_trees, no_lists, no_trees, no_words, parts_in, short_texts,
+    tree_by_chance, words_by_chance,
 )
+from ways import ByAllWays, stairs_by_sums
 
 FAR = (49999, 50000, 50001, 2 ** 64, 10 ** 300)
 NOUGHT_AND_BELOW = (0, -1, -2, -50000, -(10 ** 300))
@@ -25,92 +25,6 @@ def asks(tree, texts):
         lambda: tree_stairs(tree, texts), lambda: least_high(tree, texts, 50), lambda: least_wide(tree, texts, 50),
         lambda: least_high(tree, texts, 0), lambda: least_wide(tree, texts, 0),
     ]
-
-
-def full_texts(seed, many=24):
-    return [words_by_chance(seed * 100 + number, 40) for number in range(many)]
-
-
-def short_texts(seed, many):
-    """Few and short words for each box, for some none."""
-    chance = random.Random(seed)
-    return [words_by_chance(seed * 100 + number, chance.randint(0, 3), 1, 3) for number in range(many)]
-
-
-def no_trees():
-    """Things that are no tree, each in its own way."""
-    within = []
-    within.append(within)
-    return [
-        None, True, False, -1, 1, 7, 1.0, "", "0", "(|0 1)", [], [0], (), (0,), {}, OwnThing(), OwnThing, within,
-        ("|", (0,)), ("|", ()), ("|", 0), ("|", [0, 1]), ["|", (0, 1)], ("/", (0, 1)), (("|",), (0, 1)), (0, (0, 1)),
-        ("|", (0, 1), 2), ("|",), ("|", (0, 2)), ("|", (1, 2)), ("|", (0, 0)), ("|", (False, True)), ("|", ("0", "1")),
-        ("|", (0, ("|", (1, 2)))), ("-", (("-", (0, 1)), 2)), ("-", (0, ("|", (1,)))), broad_tree("|", 25), deep_tree(25),
-    ]
-
-
-@functools.lru_cache(None)
-def takes(words, wide):
-    """How many lines the words take in a width, or None where one is too wide."""
-    if any(len(word) > wide for word in words):
-        return None
-    return len(lines(list(words), wide))
-
-
-def holds(words, wide, high):
-    """Whether a box holds a text: one of no words where it has a place, else one with as many lines at most."""
-    many = takes(tuple(words), wide)
-    return wide >= 1 and high >= 1 and many is not None and many <= high
-
-
-def shares(whole, many):
-    """All ways to part a length into so many lengths from 1 on."""
-    for places in itertools.combinations(range(1, whole), many - 1):
-        edges = [0, *places, whole]
-        yield [last - first for first, last in zip(edges, edges[1:])]
-
-
-class ByAllWays:
-    """Whether a tree with texts has a page of a size, told by all ways to choose the sizes of its boxes."""
-
-    def __init__(self, texts):
-        self.texts = texts
-        self.known = {}
-
-    def has_page(self, tree, wide, high):
-        key = (tree, wide, high)
-        if key not in self.known:
-            self.known[key] = self.looked_at(tree, wide, high)
-        return self.known[key]
-
-    def looked_at(self, tree, wide, high):
-        if not isinstance(tree, tuple):
-            return holds(self.texts[tree], wide, high)
-        kind, parts = tree
-        if kind == "|":
-            ways = [[(share, high) for share in way] for way in shares(wide, len(parts))]
-        else:
-            ways = [[(wide, share) for share in way] for way in shares(high, len(parts))]
-        return any(all(self.has_page(part, *size) for part, size in zip(parts, way)) for way in ways)
-
-
-def stairs_by_sums(tree, texts):
-    """The stairs, told for each height (width) by the sum of the least widths (heights) of all parts."""
-    if not isinstance(tree, tuple):
-        return text_stairs(texts[tree])
-    kind, parts = tree
-    flip = (lambda stair: stair) if kind == "|" else (lambda stair: stair[::-1])
-    stairs = [[flip(stair) for stair in stairs_by_sums(part, texts)] for part in parts]
-    sizes = set()
-    for high in {high for part in stairs for wide, high in part}:
-        least = [min([wide for wide, own in part if own <= high], default=None) for part in stairs]
-        if None not in least:
-            sizes.add((sum(least), high))
-    found = []
-    for wide, high in sorted(sizes):
-        if not found or high < found[-1][1]:
-            found.append((wide, high))
-    return sorted(flip(stair) for stair in found)
 
 
 class Stairs(unittest.TestCase):
@@ -239,20 +153,6 @@ class Stairs(unittest.TestCase):
         self.assertEqual(tree_stairs(tree=0, texts=[["abc"]]), [(3, 1)])
         self.assertEqual(least_high(tree=0, texts=[["abc"]], wide=3), 1)
         self.assertEqual(least_wide(tree=0, texts=[["abc"]], high=3), 3)
-
-
-def full_trees():
-    return [
-        broad_tree("|", 24), broad_tree("-", 24), deep_tree(24),
-        ("-", tuple(("|", tuple(range(k, k + 6))) for k in range(0, 24, 6))),
-        ("|", tuple(("-", tuple(range(k, k + 6))) for k in range(0, 24, 6))),
-    ] + [tree_by_chance(seed, 24) for seed in range(10)]
-
-
-def parts_in(tree):
-    if not isinstance(tree, tuple):
-        return [tree]
-    return [tree] + [within for part in tree[1] for within in parts_in(part)]
 
 
 class LeastHeightsAndWidths(unittest.TestCase):
